@@ -1,0 +1,1 @@
+"""Oddscall: exact chances of programs that call themselves."""

@@ -1,0 +1,55 @@
+"""The interface: names, parameters, and the files in which they are defined."""
+
+import importlib
+import inspect
+import unittest
+
+FUNCTIONS = {
+    "rationals": {
+        "ratio": "n d", "plus": "a b", "minus": "a b", "times": "a b", "over": "a b", "less": "a b", "is_rational": "x"},
+    "fields": {
+        "is_field": "x", "is_element": "field x", "add": "field a b", "subtract": "field a b", "multiply": "field a b",
+        "divide": "field a b", "sign_of": "field a", "root_of": "field a"},
+    "numbers": {
+        "is_number": "x", "number_of": "field element", "element_of": "number", "number_sign": "number",
+        "compare_numbers": "first second", "floor_of": "number q"},
+}
+
+ERRORS = {
+    "BadValue": "name", "BadGraph": "where why", "NotTold": "reason", "TooLarge": "what",
+    "TextError": "line column words"}
+
+
+def parameters(function):
+    """Return the names of the parameters, which can all be passed by position or by name."""
+    found = []
+    for name, parameter in inspect.signature(function).parameters.items():
+        assert parameter.kind == inspect.Parameter.POSITIONAL_OR_KEYWORD, (function, name)
+        found.append(name)
+    return " ".join(found)
+
+
+class InterfaceTest(unittest.TestCase):
+    def test_functions(self):
+        for word, names in FUNCTIONS.items():
+            module = importlib.import_module(f"oddscall.{word}")
+            for name, expected in names.items():
+                function = getattr(module, name)
+                self.assertTrue(inspect.isfunction(function), name)
+                self.assertEqual(function.__module__, f"oddscall.{word}", name)
+                self.assertEqual(parameters(function), expected, name)
+
+    def test_errors(self):
+        module = importlib.import_module("oddscall.errors")
+        self.assertEqual(module.OddsError.__module__, "oddscall.errors")
+        for name, expected in ERRORS.items():
+            error = getattr(module, name)
+            self.assertEqual(error.__module__, "oddscall.errors")
+            attributes = expected.split()
+            given = error(*attributes)
+            for attribute in attributes:
+                self.assertEqual(getattr(given, attribute), attribute)
+
+
+if __name__ == "__main__":
+    unittest.main()
