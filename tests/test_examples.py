@@ -4,6 +4,9 @@ import doctest
 import unittest
 from pathlib import Path
 
+from oddscall.graphs import Graph
+from tests.helpers import error_of
+
 FIELDS = """
 >>> from oddscall.fields import divide, multiply, root_of, sign_of
 >>> a = ((1, 1), (1, 1))
@@ -45,6 +48,75 @@ True
 ('root', (-1, -2, 1), 1)
 """
 
+GRAPHS = """
+>>> from oddscall.graphs import Graph
+>>> heads = ("draw", (((2, 3), 1), ((1, 3), 3)))
+>>> walk = Graph(procedures=((1, (heads, ("call", 0, (2,)), ("call", 0, (3,)), ("exit", 0))),))
+>>> walk.places()
+[(0, 0), (0, 1), (0, 2), (0, 3)]
+>>> walk.point_at((0, 1))
+('call', 0, (2,))
+>>> walk.named((0, 1))
+[(0, 0), (0, 2)]
+>>> walk.ways((0, 3))
+[0, 1, 2]
+>>> walk.is_chain()
+True
+
+>>> from oddscall.graphs import Graph
+>>> Graph(procedures=((1, (("draw", (((2, 3), 1), ((1, 4), 1))), ("exit", 0))),))
+raises BadGraph
+
+>>> from oddscall.changes import reached_graph, renamed
+>>> from oddscall.graphs import Graph
+>>> graph = Graph(procedures=((1, (("reward", (1, 2), 2), ("stop",), ("call", 2, ()))), (0, (("reject",),)), (0, (("stop",),))))
+>>> small, places = reached_graph(graph)
+>>> small.procedures
+((1, (('reward', (1, 2), 1), ('call', 1, ()))), (0, (('stop',),)))
+>>> places
+[(0, 0), (0, 2), (2, 0)]
+>>> renamed(graph, [0, 2, 1], [[0, 2, 1], [0], [0]]).procedures
+((1, (('reward', (1, 2), 1), ('call', 1, ()), ('stop',))), (0, (('stop',),)), (0, (('reject',),)))
+"""
+
+FOLLOWING = """
+>>> from oddscall.following import follow
+>>> from oddscall.graphs import Graph
+>>> heads = ("draw", (((2, 3), 1), ((1, 3), 3)))
+>>> walk = Graph(procedures=((1, (heads, ("call", 0, (2,)), ("call", 0, (3,)), ("exit", 0))),))
+>>> follow(walk, (0, 0), (0, 1, 1))
+('finished', 0, 7, 3, (2, 27), (0, 1), ())
+>>> follow(walk, (0, 0), (0, 0))
+('waiting', None, 4, 2, (4, 9), (0, 1), ((0, 1), (0, 1), (0, 0)))
+"""
+
+MASSES = """
+>>> from oddscall.graphs import Graph
+>>> from oddscall.masses import lengths, mass, masses
+>>> heads = ("draw", (((2, 3), 1), ((1, 3), 3)))
+>>> walk = Graph(procedures=((1, (heads, ("call", 0, (2,)), ("call", 0, (3,)), ("exit", 0))),))
+>>> mass(walk, (0, 0), 0, 7)
+(11, 27)
+>>> lengths(walk, (0, 0), 0, 7)
+[(0, 1), (1, 3), (0, 1), (0, 1), (0, 1), (0, 1), (0, 1), (2, 27)]
+>>> masses(walk, (0, 0), 1)
+(((1, 3), (0, 1), (0, 1)), (2, 3))
+"""
+
+# Point 54, as far as it is about oddscall/equations.py.
+EQUATIONS = """
+>>> from oddscall.equations import positives, terms_of
+>>> from oddscall.graphs import Graph
+>>> heads = ("draw", (((2, 3), 1), ((1, 3), 3)))
+>>> walk = Graph(procedures=((1, (heads, ("call", 0, (2,)), ("call", 0, (3,)), ("exit", 0))),))
+>>> terms_of(walk, (0, 0, 0))
+[((2, 3), ((0, 1, 0),)), ((1, 3), ((0, 3, 0),))]
+>>> terms_of(walk, (0, 1, 1))
+[((1, 1), ((0, 0, 0), (0, 2, 1))), ((1, 1), ((0, 0, 1),))]
+>>> positives(walk)
+[(0, 0, 0), (0, 1, 0), (0, 2, 0), (0, 3, 0)]
+"""
+
 
 class ExamplesTest(unittest.TestCase):
     def check(self, text):
@@ -66,6 +138,20 @@ class ExamplesTest(unittest.TestCase):
     def test_numbers(self):
         self.check(NUMBERS)
         self.check(POINT_18)
+
+    def test_graphs(self):
+        self.check(GRAPHS)
+        points = (("draw", (((2, 3), 1), ((1, 4), 1))), ("exit", 0))
+        self.assertEqual(error_of(Graph, procedures=((1, points),)), ("BadGraph", (0, 0), "sum"))
+
+    def test_following(self):
+        self.check(FOLLOWING)
+
+    def test_masses(self):
+        self.check(MASSES)
+
+    def test_equations(self):
+        self.check(EQUATIONS)
 
     def test_the_readme(self):
         text = (Path(__file__).resolve().parent.parent / "README.md").read_text(encoding="utf-8").replace("```", "")

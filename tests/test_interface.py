@@ -13,11 +13,22 @@ FUNCTIONS = {
     "numbers": {
         "is_number": "x", "number_of": "field element", "element_of": "number", "number_sign": "number",
         "compare_numbers": "first second", "floor_of": "number q"},
+    "changes": {
+        "renamed": "graph procedures points", "old_place": "procedures points place", "reached_graph": "graph"},
+    "following": {"follow": "graph place tape"},
+    "masses": {
+        "mass": "graph place way depth", "lengths": "graph place way depth", "masses": "graph place depth"},
+    "equations": {
+        "unknowns": "graph", "terms_of": "graph unknown", "positives": "graph", "live_terms": "graph"},
 }
 
 ERRORS = {
     "BadValue": "name", "BadGraph": "where why", "NotTold": "reason", "TooLarge": "what",
     "TextError": "line column words"}
+
+METHODS = {
+    "is_chain": "", "places": "", "is_place": "value", "point_at": "place", "ways": "place", "named": "place",
+    "reached": "place"}
 
 
 def parameters(function):
@@ -49,6 +60,17 @@ class InterfaceTest(unittest.TestCase):
             given = error(*attributes)
             for attribute in attributes:
                 self.assertEqual(getattr(given, attribute), attribute)
+
+    def test_the_class_graph(self):
+        module = importlib.import_module("oddscall.graphs")
+        self.assertEqual(module.Graph.__module__, "oddscall.graphs")
+        named = inspect.signature(module.Graph).parameters
+        self.assertEqual(list(named), ["procedures"])
+        self.assertEqual(named["procedures"].kind, inspect.Parameter.KEYWORD_ONLY)
+        graph = module.Graph(procedures=((0, (("stop",),)),))
+        for name, expected in METHODS.items():
+            self.assertIn(name, vars(module.Graph))
+            self.assertEqual(parameters(getattr(graph, name)), expected, name)
 
 
 if __name__ == "__main__":
