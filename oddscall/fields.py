@@ -1,11 +1,13 @@
 """Fields: the numbers x + y * sqrt(D), with rationals x and y."""
 
 from oddscall.errors import BadValue
-from oddscall.rationals import ZERO, is_rational, minus, opposite, over, plus, rational_sign, times
+from oddscall.loose import loose_sign, loosened
+from oddscall.rationals import ZERO, is_rational, minus, opposite, over, plus, times
 from oddscall.wholes import is_whole, square_root
 
 HALF = (1, 2)
 NOUGHT = ((0, 1), (0, 1))
+UNIT = ((1, 1), (0, 1))
 
 
 def is_field(x):
@@ -36,6 +38,8 @@ def subtract(field, a, b):
 
 def multiply(field, a, b):
     """Return the product of two elements of the field."""
+    if b[1] == ZERO:
+        return (times(a[0], b[0]), times(a[1], b[0]))
     plain = times(a[0], b[0])
     rooted = times((field, 1), times(a[1], b[1]))
     return (plus(plain, rooted), plus(times(a[0], b[1]), times(a[1], b[0])))
@@ -57,14 +61,7 @@ def norm(field, a):
 
 def sign_of(field, a):
     """Return the sign of an element of the field."""
-    plain = rational_sign(a[0])
-    rooted = rational_sign(a[1])
-    if rooted == 0 or plain == rooted:
-        return plain
-    if plain == 0:
-        return rooted
-    # The parts pull in opposite directions: the one with the greater square wins.
-    return plain * rational_sign(norm(field, a))
+    return loose_sign(field, loosened(a))
 
 
 def root_of(field, a):

@@ -3,7 +3,7 @@
 from math import gcd
 
 from oddscall.errors import BadValue
-from oddscall.wholes import is_whole
+from oddscall.wholes import is_whole, whole_sign
 
 ZERO = (0, 1)
 ONE = (1, 1)
@@ -21,24 +21,31 @@ def ratio(n, d):
 
 def plus(a, b):
     """Return the sum of two rationals."""
-    return ratio(a[0] * b[1] + b[0] * a[1], a[1] * b[1])
+    shared = gcd(a[1], b[1])
+    left = a[1] // shared
+    top = a[0] * (b[1] // shared) + b[0] * left
+    # Only a divisor of what the denominators share can divide the sum: large numbers are divided less often so.
+    again = gcd(top, shared)
+    return (top // again, left * (b[1] // again))
 
 
 def minus(a, b):
     """Return the difference of two rationals."""
-    return ratio(a[0] * b[1] - b[0] * a[1], a[1] * b[1])
+    return plus(a, opposite(b))
 
 
 def times(a, b):
     """Return the product of two rationals."""
-    return ratio(a[0] * b[0], a[1] * b[1])
+    first = gcd(a[0], b[1])
+    second = gcd(b[0], a[1])
+    return ((a[0] // first) * (b[0] // second), (a[1] // second) * (b[1] // first))
 
 
 def over(a, b):
     """Return the quotient of two rationals."""
     if b[0] == 0:
         raise BadValue("b")
-    return ratio(a[0] * b[1], a[1] * b[0])
+    return times(a, (b[1], b[0]) if b[0] > 0 else (-b[1], -b[0]))
 
 
 def less(a, b):
@@ -53,9 +60,7 @@ def opposite(a):
 
 def rational_sign(a):
     """Return the sign of a rational: 1, 0 or -1."""
-    if a[0] == 0:
-        return 0
-    return 1 if a[0] > 0 else -1
+    return whole_sign(a[0])
 
 
 def is_rational(x):

@@ -19,3 +19,10 @@ def square_root(n):
         return None
     root = isqrt(n)
     return root if root * root == n else None
+
+
+def whole_sign(n):
+    """Return the sign of an integer: 1, 0 or -1."""
+    if n == 0:
+        return 0
+    return 1 if n > 0 else -1

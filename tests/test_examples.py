@@ -103,10 +103,11 @@ MASSES = """
 (((1, 3), (0, 1), (0, 1)), (2, 3))
 """
 
-# Point 54, as far as it is about oddscall/equations.py.
-EQUATIONS = """
+# Point 54.
+PARTS = """
 >>> from oddscall.equations import positives, terms_of
 >>> from oddscall.graphs import Graph
+>>> from oddscall.parts import cuts, degrees, parts
 >>> heads = ("draw", (((2, 3), 1), ((1, 3), 3)))
 >>> walk = Graph(procedures=((1, (heads, ("call", 0, (2,)), ("call", 0, (3,)), ("exit", 0))),))
 >>> terms_of(walk, (0, 0, 0))
@@ -115,6 +116,34 @@ EQUATIONS = """
 [((1, 1), ((0, 0, 0), (0, 2, 1))), ((1, 1), ((0, 0, 1),))]
 >>> positives(walk)
 [(0, 0, 0), (0, 1, 0), (0, 2, 0), (0, 3, 0)]
+>>> parts(walk)
+[(((0, 3, 0),), False, None), (((0, 0, 0), (0, 1, 0), (0, 2, 0)), True, (0, 0, 0))]
+>>> cuts(walk, 1)
+[(0, 0, 0), (0, 1, 0)]
+>>> degrees(walk, (0, 0, 0))
+[1, 2, 1]
+>>> degrees(walk, (0, 1, 0))
+[1, 1, 1]
+>>> degrees(walk, (0, 2, 0)) is None
+True
+"""
+
+CHANCES = """
+>>> from oddscall.chances import chance
+>>> from oddscall.graphs import Graph
+>>> from oddscall.judging import accepts
+>>> from oddscall.solving import solve
+>>> points = (("draw", (((2, 3), 1), ((1, 3), 3))), ("call", 0, (2,)), ("call", 0, (3,)), ("exit", 0))
+>>> twice = Graph(procedures=((1, points),))
+>>> solution = solve(twice)
+>>> accepts(twice, solution)
+True
+>>> chance(twice, solution, (0, 0), 0)
+('rational', (1, 2))
+>>> zero = ((0, 1), (0, 1))
+>>> one = ((1, 1), (0, 1))
+>>> accepts(twice, (0, (((one, zero, zero), (one, zero, zero), (one, zero, zero), (one, zero, zero)),), ((one, one, one),)))
+False
 """
 
 
@@ -150,8 +179,11 @@ class ExamplesTest(unittest.TestCase):
     def test_masses(self):
         self.check(MASSES)
 
-    def test_equations(self):
-        self.check(EQUATIONS)
+    def test_parts(self):
+        self.check(PARTS)
+
+    def test_chances(self):
+        self.check(CHANCES)
 
     def test_the_readme(self):
         text = (Path(__file__).resolve().parent.parent / "README.md").read_text(encoding="utf-8").replace("```", "")

@@ -20,6 +20,12 @@ FUNCTIONS = {
         "mass": "graph place way depth", "lengths": "graph place way depth", "masses": "graph place depth"},
     "equations": {
         "unknowns": "graph", "terms_of": "graph unknown", "positives": "graph", "live_terms": "graph"},
+    "parts": {
+        "parts": "graph", "cuts": "graph part", "degrees": "graph unknown", "groups_of": "graph unknown", "why_not": "graph"},
+    "slopes": {"right_side": "graph unknown field values", "slope": "graph first second field values"},
+    "judging": {"accepts": "graph solution"},
+    "solving": {"solve": "graph"},
+    "chances": {"chance": "graph solution place way", "chance_element": "graph solution place way"},
 }
 
 ERRORS = {
