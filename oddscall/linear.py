@@ -136,6 +136,6 @@ def values_of(field, steps, right, start):
             elif key in found:
                 total = loose_sum(total, loose_opposite(loose_product(field, (x, y, 1), found[key])))
         x, y, d = total
-        top = row[column][0]
-        found[column] = loosened(tightened((x, y, d * top) if top > 0 else (-x, -y, -d * top)))
+        # In lowest terms the denominator is above 0 again, whatever the sign of the pivot.
+        found[column] = loosened(tightened((x, y, d * row[column][0])))
     return found

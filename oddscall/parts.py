@@ -1,6 +1,6 @@
 """Parts of a chain: unknowns that use each other, and whether their chances can be told."""
 
-from oddscall.checks import check_chain, check_graph, check_unknown
+from oddscall.checks import check_graph, check_unknown
 from oddscall.components import ordered_components
 from oddscall.cutting import degrees_beside, groups_beside, inner_factors, is_cut
 from oddscall.equations import live_terms
@@ -65,7 +65,6 @@ def told_parts(graph):
 
 def live_table(graph):
     """Return a dict with the list of the live terms of each positive unknown of a chain."""
-    check_chain(graph)
     return {unknown: terms for unknown, terms in live_terms(graph)}
 
 

@@ -146,6 +146,61 @@ True
 False
 """
 
+DEPTHS = """
+>>> from oddscall.depths import first_depth, is_beyond
+>>> from oddscall.graphs import Graph
+>>> from oddscall.questions import compare_chance, ends_surely, likeliest_way, rest_of
+>>> from oddscall.solving import solve
+>>> points = (("draw", (((2, 3), 1), ((1, 3), 3))), ("call", 0, (2,)), ("call", 0, (3,)), ("exit", 0))
+>>> twice = Graph(procedures=((1, points),))
+>>> solution = solve(twice)
+>>> compare_chance(twice, solution, (0, 0), 0, ("rational", (1, 2)))
+0
+>>> ends_surely(twice, solution, (0, 0))
+False
+>>> likeliest_way(twice, solution, (0, 0))
+0
+>>> rest_of(twice, solution, (0, 0), 0, 7)
+('rational', (5, 54))
+>>> first_depth(twice, (0, 0), 0, (2, 5))
+7
+>>> is_beyond(twice, (0, 0), 0, (2, 5), 6)
+False
+"""
+
+# Points 64 and 72, whose sentences are written here as calls.
+POINT_72 = """
+>>> from oddscall.chances import chance
+>>> from oddscall.graphs import Graph
+>>> from oddscall.questions import chance_of_any
+>>> from oddscall.solving import solve
+>>> points = (("draw", (((2, 3), 1), ((1, 3), 3))), ("call", 0, (2,)), ("call", 0, (3,)), ("exit", 0))
+>>> twice = Graph(procedures=((1, points),))
+>>> solution = solve(twice)
+>>> [chance(twice, solution, (0, 0), way) for way in twice.ways((0, 0))]
+[('rational', (1, 2)), ('rational', (0, 1)), ('rational', (0, 1))]
+>>> chance_of_any(twice, solution, (0, 0), (1, 2))
+('rational', (0, 1))
+"""
+
+OBSERVING = """
+>>> from oddscall.graphs import Graph
+>>> from oddscall.observing import endings, observed_at, observed_draws, posterior
+>>> from oddscall.solving import solve
+>>> first = ("draw", (((1, 2), 1), ((1, 2), 4)))
+>>> second = ("draw", (((1, 2), 2), ((1, 2), 3)))
+>>> coins = Graph(procedures=((2, (first, second, ("reject",), ("exit", 0), ("exit", 1))),))
+>>> solution = solve(coins)
+>>> posterior(coins, solution, (0, 0))
+(('rational', (1, 3)), ('rational', (2, 3)))
+>>> endings(coins, solution, (0, 0))
+((('rational', (1, 4)), ('rational', (1, 2))), ('rational', (1, 4)), ('rational', (0, 1)), ('rational', (0, 1)))
+>>> observed_at(coins, (0, 0), 0, 1)
+(0, 1)
+>>> observed_draws(coins, solution, 0)
+(((1, 3), (2, 3)), ((0, 1), (1, 1)), None, None, None)
+"""
+
 
 class ExamplesTest(unittest.TestCase):
     def check(self, text):
@@ -184,6 +239,13 @@ class ExamplesTest(unittest.TestCase):
 
     def test_chances(self):
         self.check(CHANCES)
+
+    def test_depths(self):
+        self.check(DEPTHS)
+        self.check(POINT_72)
+
+    def test_observing(self):
+        self.check(OBSERVING)
 
     def test_the_readme(self):
         text = (Path(__file__).resolve().parent.parent / "README.md").read_text(encoding="utf-8").replace("```", "")

@@ -26,6 +26,20 @@ FUNCTIONS = {
     "judging": {"accepts": "graph solution"},
     "solving": {"solve": "graph"},
     "chances": {"chance": "graph solution place way", "chance_element": "graph solution place way"},
+    "questions": {
+        "compare_chance": "graph solution place way number", "compare_chances": "graph solution first second",
+        "chance_of_any": "graph solution place ways", "ends_surely": "graph solution place",
+        "likeliest_way": "graph solution place", "rest_of": "graph solution place way depth"},
+    "depths": {"first_depth": "graph place way rational", "is_beyond": "graph place way rational depth"},
+    "rewards": {
+        "means": "graph solution what", "accepts_means": "graph solution what answer", "expected": "graph solution what place",
+        "mean_at": "graph what place depth"},
+    "observing": {
+        "endings": "graph solution place", "observed": "graph solution place exit_number", "posterior": "graph solution place",
+        "observed_at": "graph place exit_number depth", "observed_draws": "graph solution procedure", "rejecting": "graph places"},
+    "strategies": {
+        "chain_of": "graph procedure strategy", "greatest_mass": "graph place way depth", "least_mass": "graph place way depth",
+        "avoiding": "graph procedure way"},
 }
 
 ERRORS = {

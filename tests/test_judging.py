@@ -7,7 +7,9 @@ from oddscall.equations import positives, unknowns
 from oddscall.errors import TooLarge
 from oddscall.graphs import Graph
 from oddscall.judging import accepts
-from oddscall.parts import why_not
+from oddscall.linear import linear_solution
+from oddscall.parts import parts, why_not
+from oddscall.slopes import slope
 from oddscall.solving import solve
 from tests.helpers import ODD_VALUES, error_of
 from tests.samples import all_kinds, random_chain, walk
@@ -150,6 +152,34 @@ class RejectedTest(unittest.TestCase):
                         self.assertIs(accepts(graph, (field, values, changed_rows(rows, part, at, item))), False)
                     all_negative = tuple([(root(field, item) * Root(field, -1)).element() for item in row])
                 self.assertIs(accepts(graph, (field, values, rows[:part] + (all_negative,) + rows[part + 1:])), False)
+
+    def test_rows_of_zeros(self):
+        for graph in told():
+            field, values, rows = solve(graph)
+            for part, row in enumerate(rows):
+                zeros = (ZERO,) * len(row)
+                self.assertIs(accepts(graph, (field, values, rows[:part] + (zeros,) + rows[part + 1:])), False)
+
+    def test_some_numbers_of_the_row_are_negative(self):
+        # x = 19/20 + x * x / 20 for the greater solution 19: rows that the slopes do not raise exist, but none is positive.
+        heads = ("draw", (((1, 30), 1), ((1, 60), 3), ((19, 20), 4)))
+        graph = Graph(procedures=((1, (heads, ("call", 0, (2,)), ("call", 0, (4,)), ("call", 0, (2,)), ("exit", 0))),))
+        numbers = (19, 19 * 19, 19, 19 * 19, 1)
+        values = (tuple([(element(number), ZERO, ZERO) for number in numbers]),)
+        part = [(0, index, 0) for index in range(4)]
+        self.assertEqual([unknown for unknown, _, _ in parts(graph)[1:]], [tuple(part)])
+        columns = []
+        for at, second in enumerate(part):
+            slopes = [slope(graph, first, second, 0, values) for first in part]
+            columns.append({other: element((other == at) - Fraction(*item[0])) for other, item in enumerate(slopes)})
+        mixed = 0
+        for at in range(4):
+            found = linear_solution(0, columns, [(element(other == at),) for other in range(4)])
+            row = tuple([answer[0] for answer in found])
+            signs = {Fraction(*item[0]) > 0 for item in row}
+            mixed += len(signs) == 2
+            self.assertIs(accepts(graph, (0, values, (row,))), False)
+        self.assertGreater(mixed, 0)
 
     def test_a_row_that_does_not_fit_in_each_part(self):
         graph = two_roots(((1, 4), (1, 2)), ((1, 6), (1, 6)))

@@ -8,7 +8,7 @@ from oddscall.parts import cuts, degrees, groups_of, parts, why_not
 from tests.helpers import ODD_VALUES, error_of
 from tests.samples import all_kinds, chain_of_kinds, greatest_chain, random_chain, walk
 from tests.told import (
-    Literal, call_in_a_loop, critical, crossed_loops, looped_before_the_call, random_recursion, root_of_a_root, rooted,
+    Literal, call_in_a_loop, call_out_of_a_loop, critical, crossed_loops, looped_before_the_call, random_recursion, root_of_a_root, rooted,
     straight, three_calls, twice, two_roots, with_inner_loop)
 
 
@@ -16,7 +16,7 @@ def samples():
     """Return chains with and without curved parts, some of which are not told."""
     named = [
         walk(), chain_of_kinds(), straight(), rooted(), critical(), with_inner_loop(), looped_before_the_call(),
-        call_in_a_loop(), crossed_loops(), three_calls(), root_of_a_root((7, 23), (10, 23)),
+        call_in_a_loop(), call_out_of_a_loop(), crossed_loops(), three_calls(), root_of_a_root((7, 23), (10, 23)),
         two_roots(((1, 4), (1, 2)), ((1, 3), (1, 2)))]
     return named + [random_chain(seed) for seed in range(40)] + [random_recursion(seed) for seed in range(250)]
 
@@ -137,6 +137,14 @@ class DegreesTest(unittest.TestCase):
         self.assertEqual(degrees(looped_before_the_call(), (0, 2, 0)), [1, 1, 1, 2, 1, 1])
         self.assertEqual(cuts(looped_before_the_call(), 2), [(0, 0, 0), (0, 2, 0), (0, 3, 0)])
 
+    def test_two_factors_outside_of_a_looped_group(self):
+        graph = call_out_of_a_loop()
+        part = ((0, 0, 1), (0, 1, 1), (0, 2, 1), (0, 3, 1))
+        index = [curved for _, curved, _ in parts(graph)].index(True)
+        self.assertEqual(parts(graph)[index], (part, True, (0, 0, 1)))
+        self.assertEqual(groups_of(graph, (0, 0, 1)), [((0, 3, 1),), ((0, 1, 1), (0, 2, 1))])
+        self.assertEqual(degrees(graph, (0, 0, 1)), [1, 2, 2, 1])
+
     def test_a_term_of_degree_3(self):
         # Beside the first unknown no group is looped, so the second condition alone is broken.
         self.assertEqual(groups_of(three_calls(), (0, 0, 0)), [((0, 3, 0),), ((0, 2, 0),), ((0, 1, 0),)])
@@ -212,7 +220,7 @@ class WrongArgumentsTest(unittest.TestCase):
         self.assertEqual(error_of(cuts, Graph(procedures=((0, (("call", 0, ()),)),)), 0), ("BadValue", "part"))
 
     def test_unknowns(self):
-        for value in ODD_VALUES + (0, (0, 0), (0, 0, 3), (0, 4, 0), (1, 0, 0), (0, 0, -1), (0, 0, True), [0, 0, 0], (0, 0, 0, 0)):
+        for value in ODD_VALUES + (0, (0, 0), (0, 0, 3), (0, 4, 0), (1, 0, 0), (0, 0, -1), (0, 0, True), (False, 0, 0), (0, False, 0), [0, 0, 0], (0, 0, 0, 0)):
             self.assertEqual(error_of(degrees, walk(), value), ("BadValue", "unknown"), value)
             self.assertEqual(error_of(groups_of, walk(), value), ("BadValue", "unknown"), value)
 

@@ -14,7 +14,7 @@ from oddscall.solving import solve
 from tests.helpers import ODD_VALUES, error_of, fraction
 from tests.samples import all_kinds, greatest_chain, random_chain, walk
 from tests.told import (
-    Root, approximate, call_in_a_loop, critical, looped_before_the_call, random_recursion, root_of_a_root, rooted, sharp, straight,
+    Root, approximate, call_in_a_loop, call_out_of_a_loop, critical, looped_before_the_call, random_recursion, root_of_a_root, rooted, sharp, straight,
     tail_calls, three_calls, twice, two_roots, value_at, with_inner_loop)
 
 ZERO = ((0, 1), (0, 1))
@@ -120,6 +120,11 @@ class RootTest(unittest.TestCase):
             right = Root(field, Fraction(*pair[1])) + Root(field, Fraction(*pair[0])) * x * t * t
             self.assertEqual(right.element(), t.element())
 
+    def test_a_looped_group_with_a_call(self):
+        field, values, rows = solved(call_out_of_a_loop())
+        self.assertEqual([item[0] for item in values[0][0]], [(1, 3), (2, 3), (0, 1), (0, 1)])
+        self.assertEqual(len(rows), 1)
+
     def test_looped_groups(self):
         for graph in (with_inner_loop(), looped_before_the_call()):
             field, values, rows = solved(graph)
@@ -163,7 +168,7 @@ class TooLargeTest(unittest.TestCase):
 class ChancesTest(unittest.TestCase):
     def graphs(self):
         named = [
-            walk(), straight(), rooted(), critical(), with_inner_loop(), looped_before_the_call(), call_in_a_loop(),
+            walk(), straight(), rooted(), critical(), with_inner_loop(), looped_before_the_call(), call_in_a_loop(), call_out_of_a_loop(),
             root_of_a_root((7, 23), (10, 23)), two_roots(((1, 4), (1, 2)), ((1, 6), (1, 6)))]
         return named + random_told()[::3]
 

@@ -5,7 +5,10 @@ from fractions import Fraction
 from math import isqrt
 
 from oddscall.equations import live_terms
+from oddscall.errors import TooLarge
 from oddscall.graphs import Graph
+from oddscall.parts import why_not
+from oddscall.solving import solve
 from tests.samples import random_branches
 
 
@@ -92,6 +95,23 @@ def looped_before_the_call():
     return Graph(procedures=((1, points),))
 
 
+def call_out_of_a_loop():
+    """Return a chain with a looped group, one of whose terms has two factors in the part and none in the group.
+
+    The exit 0 has the chance 1/3. The chance x of the exit 1 satisfies x = 1/3 + 2/5 * (1/6 + x / 3 + x * x).
+    """
+    points = (
+        ("draw", (((1, 3), 1), ((1, 3), 4), ((1, 3), 5))),
+        ("call", 0, (2, 3)),
+        ("draw", (((1, 2), 1), ((1, 2), 5))),
+        ("call", 0, (6, 6)),
+        ("exit", 0),
+        ("exit", 1),
+        ("reward", (1, 1), 5),
+    )
+    return Graph(procedures=((2, points),))
+
+
 def three_calls():
     """Return a chain that is not told: a procedure that calls itself three times in a row."""
     points = (("draw", (((1, 2), 1), ((1, 2), 4))), ("call", 0, (2,)), ("call", 0, (3,)), ("call", 0, (4,)), ("exit", 0))
@@ -149,6 +169,18 @@ def random_recursion(seed, most=3):
         points.extend([("exit", result) for result in range(exits[number])])
         procedures.append((exits[number], tuple(points)))
     return Graph(procedures=tuple(procedures))
+
+
+def with_solutions(graphs):
+    """Return the pairs of a graph and its solution for those that are told and whose chances lie in one field."""
+    found = []
+    for graph in graphs:
+        if why_not(graph) is None:
+            try:
+                found.append((graph, solve(graph)))
+            except TooLarge:
+                continue
+    return found
 
 
 class Literal:
