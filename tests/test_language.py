@@ -28,6 +28,11 @@ METHODS = set("""
     splitlines startswith strip update upper values zfill bit_length add discard
 """.split())
 
+NOT_AS_ATTRIBUTES = set("""
+    items keys values pop update append clear extend insert remove reverse setdefault sort args encode decode hex fromhex format
+    as_integer_ratio bit_count conjugate from_bytes is_integer to_bytes
+""".split())
+
 NEVER = {"register", "mro", "elements", "open", "input", "law", "version_info", "with_traceback", "add_note"}
 
 NOT_AS_NAMES = set("""
@@ -156,6 +161,22 @@ class LanguageTest(unittest.TestCase):
             outside = re.sub(r'"""[\s\S]*?"""|#.*', "", text)
             self.assertEqual(set(re.findall(r"\w+", outside)) & WORDS, set(), name)
 
+    def test_what_is_iterated_at_once(self):
+        for name, _, tree in files():
+            for node in ast.walk(tree):
+                # A range, a zip or a view is not kept here, and not passed on to functions of the package.
+                if isinstance(node, (ast.Assign, ast.Return)) and isinstance(node.value, ast.Call):
+                    self.assertFalse(self.is_lazy(node.value), (name, node.lineno))
+                if isinstance(node, ast.Call) and isinstance(node.func, ast.Name) and node.func.id not in BUILTINS:
+                    self.assertFalse(any([self.is_lazy(argument) for argument in node.args]), (name, node.lineno))
+
+    def is_lazy(self, node):
+        if not isinstance(node, ast.Call):
+            return False
+        if isinstance(node.func, ast.Name):
+            return node.func.id in {"range", "zip", "enumerate", "reversed", "map", "iter"}
+        return isinstance(node.func, ast.Attribute) and node.func.attr in {"items", "keys", "values"} and not node.args
+
     def test_names(self):
         every_method = set()
         for _, _, tree in files():
@@ -175,6 +196,8 @@ class LanguageTest(unittest.TestCase):
                     self.assertIn(node.func.attr, METHODS | every_method, (name, node.lineno))
                 if isinstance(node, ast.Attribute):
                     self.assertNotIn(node.attr, NEVER | {"args", "format", "format_map"}, (name, node.lineno))
+                    if isinstance(node.ctx, ast.Store):
+                        self.assertNotIn(node.attr, NOT_AS_ATTRIBUTES, (name, node.lineno))
                 word = getattr(node, "name", None) or getattr(node, "id", None) or getattr(node, "attr", None)
                 if isinstance(word, str) and word.startswith("__"):
                     self.assertIn(word, SPECIAL, (name, node.lineno))
