@@ -15,7 +15,8 @@ def chain_of(graph, procedure, strategy):
     """Return the chain of the strategy: the procedure alone, which takes what the strategy takes."""
     check_alone(graph, procedure)
     exits, points = graph.procedures[procedure]
-    check_strategy(points, strategy)
+    if not is_strategy(points, strategy):
+        raise BadValue("strategy")
     left = list(strategy)
     taken = []
     for point in points:
@@ -74,13 +75,12 @@ def check_alone(graph, procedure):
     check_no_call(graph, procedure)
 
 
-def check_strategy(points, strategy):
-    """Raise BadValue if the argument is not a positional strategy for these points."""
+def is_strategy(points, value):
+    """Return True if the value is a positional strategy for these points."""
     sizes = [len(point[1]) for point in points if point[0] == "choose"]
-    if not isinstance(strategy, tuple) or len(strategy) != len(sizes):
-        raise BadValue("strategy")
-    if not all(is_index(index, size) for index, size in zip(strategy, sizes)):
-        raise BadValue("strategy")
+    if not isinstance(value, tuple) or len(value) != len(sizes):
+        return False
+    return all(is_index(index, size) for index, size in zip(value, sizes))
 
 
 def check_target(graph, place, way, depth):

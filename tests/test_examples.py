@@ -201,6 +201,64 @@ OBSERVING = """
 (((1, 3), (2, 3)), ((0, 1), (1, 1)), None, None, None)
 """
 
+DECIDING = """
+>>> from oddscall.deciding import accepts_greatest, greatest, least
+>>> from oddscall.graphs import Graph
+>>> toss = ("draw", (((1, 2), 2), ((1, 2), 3)))
+>>> game = Graph(procedures=((2, (("choose", (0, 1)), toss, ("exit", 0), ("exit", 1))),))
+>>> greatest(game, 0, 0)
+(((1, 2), (1, 2), (1, 1), (0, 1)), (1,))
+>>> least(game, 0, 0)
+(((0, 1), (1, 2), (1, 1), (0, 1)), (0,))
+>>> accepts_greatest(game, 0, 0, (((1, 1), (1, 2), (1, 1), (0, 1)), (0,)))
+False
+"""
+
+GRAMMARS = """
+>>> from oddscall.grammars import best_tree, graph_of_grammar, length_chance, rule_uses, word_chance
+>>> grammar = ((((1, 3), (0, 0)), ((2, 3), ("a",))),)
+>>> graph_of_grammar(grammar).procedures
+((1, (('draw', (((1, 3), 1), ((2, 3), 3))), ('call', 0, (2,)), ('call', 0, (4,)), ('reward', (1, 1), 4), ('exit', 0))),)
+>>> word_chance(grammar, "aa")
+(4, 27)
+>>> length_chance(grammar, 3)
+(16, 243)
+>>> best_tree(grammar, "aaa")
+((8, 243), [(0, 0), (0, 0), (0, 1), (0, 1), (0, 1)])
+>>> rule_uses(grammar, "aa")
+[[(1, 1), (2, 1)]]
+
+>>> from oddscall.beginnings import beginning_chance, next_letters
+>>> from oddscall.grammars import graph_of_grammar
+>>> from oddscall.solving import solve
+>>> grammar = ((((1, 3), (0, 0)), ((2, 3), ("a",))),)
+>>> solution = solve(graph_of_grammar(grammar))
+>>> beginning_chance(grammar, solution, "")
+('rational', (1, 1))
+>>> beginning_chance(grammar, solution, "aa")
+('rational', (1, 3))
+>>> next_letters(grammar, solution, "aa")
+[('a', ('rational', (5, 27)))]
+"""
+
+# Point 116.
+ALIKE = """
+>>> from oddscall.alike import alike, alike_classes, first_difference, merged
+>>> from oddscall.graphs import Graph
+>>> start = ("draw", (((1, 2), 1), ((1, 2), 2)))
+>>> one = ("draw", (((1, 3), 3), ((2, 3), 4)))
+>>> other = ("draw", (((2, 3), 4), ((1, 3), 3)))
+>>> graph = Graph(procedures=((1, (start, one, other, ("exit", 0), ("stop",))),))
+>>> alike_classes(graph)
+[[(0,), (1, 2), (3,), (4,)]]
+>>> alike(graph, (0, 1), (0, 2))
+True
+>>> merged(graph).procedures
+((1, (('draw', (((1, 1), 1),)), ('draw', (((1, 3), 2), ((2, 3), 3))), ('exit', 0), ('stop',))),)
+>>> first_difference(graph, (0, 0), (0, 1))
+(1, 0)
+"""
+
 
 class ExamplesTest(unittest.TestCase):
     def check(self, text):
@@ -246,6 +304,15 @@ class ExamplesTest(unittest.TestCase):
 
     def test_observing(self):
         self.check(OBSERVING)
+
+    def test_deciding(self):
+        self.check(DECIDING)
+
+    def test_grammars(self):
+        self.check(GRAMMARS)
+
+    def test_alike(self):
+        self.check(ALIKE)
 
     def test_the_readme(self):
         text = (Path(__file__).resolve().parent.parent / "README.md").read_text(encoding="utf-8").replace("```", "")

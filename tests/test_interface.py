@@ -40,6 +40,17 @@ FUNCTIONS = {
     "strategies": {
         "chain_of": "graph procedure strategy", "greatest_mass": "graph place way depth", "least_mass": "graph place way depth",
         "avoiding": "graph procedure way"},
+    "deciding": {
+        "greatest": "graph procedure way", "least": "graph procedure way", "accepts_greatest": "graph procedure way evidence",
+        "accepts_least": "graph procedure way evidence"},
+    "grammars": {
+        "is_grammar": "value", "is_plain": "grammar", "graph_of_grammar": "grammar", "word_chance": "grammar word",
+        "length_chance": "grammar length", "best_tree": "grammar word", "rule_uses": "grammar word"},
+    "beginnings": {"beginning_chance": "grammar solution word", "next_letters": "grammar solution word"},
+    "alike": {"alike": "graph one other", "alike_classes": "graph", "merged": "graph", "first_difference": "graph one other"},
+    "resting": {
+        "rests_on": "graph unknown", "branch_uses": "graph solution draw branch", "accepts_uses": "graph solution draw branch answer",
+        "uses": "graph solution unknown draw", "slope_of": "graph solution unknown draw first second"},
 }
 
 ERRORS = {
