@@ -43,7 +43,7 @@ class Game:
                 found[index] = staying[0]
         return found
 
-    def steps(self, index, targets):
+    def followers(self, index, targets):
         """Return the list of the points that follow a point that is no end, with their chances."""
         point = self.points[index]
         if point[0] == "draw":
@@ -58,7 +58,7 @@ class Game:
         sources = [[] for _ in range(many)]
         for index in range(many):
             if index not in self.ends:
-                for _, target in self.steps(index, targets):
+                for _, target in self.followers(index, targets):
                     sources[target].append(index)
         waiting = [index for index, value in self.ends.items() if value == ONE]
         hitting = {index: True for index in waiting}
@@ -75,7 +75,7 @@ class Game:
         if index in self.ends:
             return self.ends[index]
         total = ZERO
-        for chance, target in self.steps(index, targets):
+        for chance, target in self.followers(index, targets):
             total = plus(total, times(chance, values[target]))
         return total
 
@@ -92,7 +92,7 @@ class Game:
         for column, index in enumerate(open_points):
             row = {column: UNIT}
             known = ZERO
-            for chance, target in self.steps(index, targets):
+            for chance, target in self.followers(index, targets):
                 if target in columns:
                     at = columns[target]
                     row[at] = subtract(0, row.get(at, (ZERO, ZERO)), (chance, ZERO))

@@ -21,7 +21,7 @@ class Chart:
         for size in range(1, len(word) + 1):
             for start in range(len(word) - size + 1):
                 for variable in range(len(grammar)):
-                    total = self.total(variable, start, start + size)
+                    total = self.tree_total(variable, start, start + size)
                     if total is not None:
                         self.found[variable, start, start + size] = total
 
@@ -35,7 +35,7 @@ class Chart:
             return self.found.get((symbol, start, stop))
         return self.kind.letter() if self.word[start:stop] == symbol else None
 
-    def total(self, variable, start, stop):
+    def tree_total(self, variable, start, stop):
         """Return what the rules of a variable come to over a stretch, or None if there is no tree."""
         total = None
         for index, (chance, _) in enumerate(self.grammar[variable]):

@@ -38,25 +38,24 @@ def best_evidence(game, targets, inside):
 def accepts_greatest(graph, procedure, way, evidence):
     """Return True if the argument is evidence for the greatest chances."""
     game = checked_game(graph, procedure, way)
-    if not is_balanced(game, evidence):
-        return False
-    values, strategy = evidence
-    targets = game.targets_of(strategy)
-    if game.better_targets(targets, values, True) != targets:
-        return False
-    return is_just_zero_at(values, game.missing(targets))
+    return is_evidence(game, evidence, None)
 
 
 def accepts_least(graph, procedure, way, evidence):
     """Return True if the argument is evidence for the least chances."""
     game = checked_game(graph, procedure, way)
+    return is_evidence(game, evidence, avoiding_table(graph, procedure, way))
+
+
+def is_evidence(game, evidence, inside):
+    """Return True if the argument is evidence for the least chances, or for the greatest ones if nothing is inside."""
     if not is_balanced(game, evidence):
         return False
     values, strategy = evidence
     targets = game.targets_of(strategy)
-    if game.better_targets(targets, values, False) != targets:
+    if game.better_targets(targets, values, inside is None) != targets:
         return False
-    return is_just_zero_at(values, avoiding_table(graph, procedure, way))
+    return is_just_zero_at(values, game.missing(targets) if inside is None else inside)
 
 
 def checked_game(graph, procedure, way):

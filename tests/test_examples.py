@@ -5,6 +5,7 @@ import unittest
 from pathlib import Path
 
 from oddscall.graphs import Graph
+from oddscall.reading import read_program
 from tests.helpers import error_of
 
 FIELDS = """
@@ -259,6 +260,56 @@ True
 (1, 0)
 """
 
+LEDGER = """
+>>> from oddscall.graphs import Graph
+>>> from oddscall.ledger import Ledger
+>>> from oddscall.solving import solve
+>>> first = (1, (("draw", (((1, 2), 1), ((1, 2), 2))), ("exit", 0), ("stop",), ("call", 1, (1,))))
+>>> second = (1, (("draw", (((1, 3), 1), ((2, 3), 2))), ("exit", 0), ("stop",)))
+>>> ledger = Ledger(Graph(procedures=(first, second)))
+>>> ledger.record(solve(ledger.graph()), (0, 0), 0)
+0
+>>> ledger.record(solve(ledger.graph()), (0, 3), 0)
+1
+>>> ledger.fact(1)
+((0, 3), 0, ('rational', (1, 3)))
+>>> ledger.rests_on((0, 3))
+[(0, 1), (0, 3), (1, 0), (1, 1), (1, 2)]
+>>> ledger.edit((1, 0), ("exit", 0))
+[1]
+>>> ledger.standing()
+[0]
+>>> ledger.undo()
+'edit'
+>>> ledger.standing()
+[0, 1]
+"""
+
+UNFOLDING = """
+>>> from oddscall.reading import read_program
+>>> from oddscall.unfolding import graph_of, situation
+>>> program = read_program("proc main() { var n: 3; while n < 2 { draw { 1/2 { n = n + 1; } 1/2 { } } } return n; }")
+>>> graph_of(program).procedures
+((1, (('draw', (((1, 2), 1), ((1, 2), 0))), ('draw', (((1, 2), 2), ((1, 2), 1))), ('exit', 0))),)
+>>> situation(program, (0, 1))
+(1, (1,))
+>>> situation(program, (0, 2))
+(3, (2,))
+
+>>> from oddscall.reading import next_tokens, read_program
+>>> from oddscall.writing import program_text
+>>> program_text(read_program("proc a(): 2 { var x: 2; x = call b(1); return x+1; } proc b(n: 2): 2 { observe n != 0; return 1-(n-0); }"))
+'proc a(): 2 {\\n  var x: 2;\\n  x = call b(1);\\n  return x + 1;\\n}\\nproc b(n: 2): 2 {\\n  observe n != 0;\\n  return 1 - (n - 0);\\n}\\n'
+>>> next_tokens("proc a() { x")
+['"="']
+>>> next_tokens("proc a() { observe [1")
+['"="', '"!="', '"<"', '"<="', '">"', '">="', '"+"', '"-"', '"*"']
+
+>>> from oddscall.reading import read_program
+>>> read_program("proc a() { draw { 1/2 { } 1/3 { } } }")
+raises TextError
+"""
+
 
 class ExamplesTest(unittest.TestCase):
     def check(self, text):
@@ -313,6 +364,20 @@ class ExamplesTest(unittest.TestCase):
 
     def test_alike(self):
         self.check(ALIKE)
+
+    def test_ledger(self):
+        self.check(LEDGER)
+
+    def test_unfolding(self):
+        self.check(UNFOLDING)
+        text = "proc a() { draw { 1/2 { } 1/3 { } } }"
+        self.assertEqual(error_of(read_program, text), ("TextError", 1, 12, "the total of the chances is not 1"))
+        text = "proc main() { var n: 3; while n < 2 { draw { 1/2 { n = n + 1; } 1/2 { } } } return n; }"
+        program = read_program(text)
+        # Its statements are numbered 0 (while), 1 (draw), 2 (n = n + 1) and 3 (return).
+        starts = [text.index(word) + 1 for word in ("while", "draw", "n = n", "return")]
+        self.assertEqual([program.place_of(number) for number in range(4)], [(1, column) for column in starts])
+        self.assertEqual(error_of(program.place_of, 4), ("BadValue", "statement"))
 
     def test_the_readme(self):
         text = (Path(__file__).resolve().parent.parent / "README.md").read_text(encoding="utf-8").replace("```", "")

@@ -51,6 +51,11 @@ FUNCTIONS = {
     "resting": {
         "rests_on": "graph unknown", "branch_uses": "graph solution draw branch", "accepts_uses": "graph solution draw branch answer",
         "uses": "graph solution unknown draw", "slope_of": "graph solution unknown draw first second"},
+    "ledger": {"replay": "graph edits"},
+    "scanning": {"scan": "text"},
+    "reading": {"next_tokens": "text", "read_program": "text"},
+    "writing": {"program_text": "program"},
+    "unfolding": {"graph_of": "program", "instances": "program", "situation": "program place"},
 }
 
 ERRORS = {
@@ -60,6 +65,10 @@ ERRORS = {
 METHODS = {
     "is_chain": "", "places": "", "is_place": "value", "point_at": "place", "ways": "place", "named": "place",
     "reached": "place"}
+
+LEDGER_METHODS = {
+    "graph": "", "record": "solution place way", "edit": "place point", "fact": "number", "stands": "number", "standing": "",
+    "falling": "place", "rests_on": "place", "undo": "", "edits": "", "copy": ""}
 
 
 def parameters(function):
@@ -102,6 +111,25 @@ class InterfaceTest(unittest.TestCase):
         for name, expected in METHODS.items():
             self.assertIn(name, vars(module.Graph))
             self.assertEqual(parameters(getattr(graph, name)), expected, name)
+
+    def test_the_class_ledger(self):
+        module = importlib.import_module("oddscall.ledger")
+        graphs = importlib.import_module("oddscall.graphs")
+        self.assertEqual(module.Ledger.__module__, "oddscall.ledger")
+        self.assertEqual(parameters(module.Ledger), "graph")
+        ledger = module.Ledger(graphs.Graph(procedures=((0, (("stop",),)),)))
+        for name, expected in LEDGER_METHODS.items():
+            self.assertIn(name, vars(module.Ledger))
+            self.assertEqual(parameters(getattr(ledger, name)), expected, name)
+
+    def test_the_class_program(self):
+        module = importlib.import_module("oddscall.reading")
+        self.assertEqual(module.Program.__module__, "oddscall.reading")
+        program = module.read_program("proc a() { stop; }")
+        self.assertIs(program.__class__, module.Program)
+        self.assertEqual(program.procedures, (("a", (), 1, (), (("stop",),)),))
+        self.assertIn("place_of", vars(module.Program))
+        self.assertEqual(parameters(program.place_of), "statement")
 
 
 if __name__ == "__main__":
