@@ -22,7 +22,7 @@ class Game:
                 self.ends[index] = ONE if end == way else ZERO
         self.choices = [index for index, point in enumerate(points) if point[0] == "choose"]
 
-    def targets_of(self, strategy):
+    def taken_by(self, strategy):
         """Return the targets of a strategy."""
         return {index: self.points[index][1][item] for index, item in zip(self.choices, strategy)}
 
@@ -34,17 +34,8 @@ class Game:
         """Return the targets of the strategy that always takes the first point."""
         return {index: self.points[index][1][0] for index in self.choices}
 
-    def staying_targets(self, inside):
-        """Return the targets of a strategy that takes points inside, at each choice that has one."""
-        found = self.first_targets()
-        for index in self.choices:
-            staying = [target for target in self.points[index][1] if target in inside]
-            if len(staying) > 0:
-                found[index] = staying[0]
-        return found
-
     def followers(self, index, targets):
-        """Return the list of the points that follow a point that is no end, with their chances."""
+        """Return the list of the points that follow a point, with their chances; nothing follows an end."""
         point = self.points[index]
         if point[0] == "draw":
             return list(point[1])
@@ -57,9 +48,8 @@ class Game:
         many = len(self.points)
         sources = [[] for _ in range(many)]
         for index in range(many):
-            if index not in self.ends:
-                for _, target in self.followers(index, targets):
-                    sources[target].append(index)
+            for _, target in self.followers(index, targets):
+                sources[target].append(index)
         waiting = [index for index, value in self.ends.items() if value == ONE]
         hitting = {index: True for index in waiting}
         while waiting:
@@ -80,7 +70,7 @@ class Game:
         return total
 
     def values_under(self, targets, zeros):
-        """Return the tuple of the balanced values that are 0 at the given points.
+        """Return the tuple of the values that are 0 at the given points and balanced at all others.
 
         From every other point, a run under the strategy has to come to an end or to one of these points in some way.
         """

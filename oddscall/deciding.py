@@ -10,25 +10,25 @@ from oddscall.strategies import avoiding, check_alone, is_strategy
 def greatest(graph, procedure, way):
     """Return evidence for the greatest chances: the values of all points, and a strategy that has them."""
     game = checked_game(graph, procedure, way)
-    return best_evidence(game, game.first_targets(), None)
+    return best_evidence(game, None)
 
 
 def least(graph, procedure, way):
     """Return evidence for the least chances: the values of all points, and a strategy that has them."""
     game = checked_game(graph, procedure, way)
-    inside = avoiding_table(graph, procedure, way)
-    return best_evidence(game, game.staying_targets(inside), inside)
+    return best_evidence(game, avoiding_table(graph, procedure, way))
 
 
-def best_evidence(game, targets, inside):
+def best_evidence(game, inside):
     """Return evidence for the least chances, with the avoiding points inside, or for the greatest ones without them.
 
-    Only what is strictly better is taken instead. So for the greatest chances no point from which the target is
-    reached loses it, and for the least ones no avoiding point is left.
+    Only what is strictly better is taken instead, so that for the greatest chances no point from which the target is
+    reached loses it. For the least ones the avoiding points have the value 0 from the beginning, and what leaves them
+    is not the best.
     """
-    better = targets
-    values = None
-    while values is None or better != targets:
+    better = game.first_targets()
+    targets = None
+    while better != targets:
         targets = better
         values = game.values_under(targets, game.missing(targets) if inside is None else inside)
         better = game.better_targets(targets, values, inside is None)
@@ -52,7 +52,7 @@ def is_evidence(game, evidence, inside):
     if not is_balanced(game, evidence):
         return False
     values, strategy = evidence
-    targets = game.targets_of(strategy)
+    targets = game.taken_by(strategy)
     if game.better_targets(targets, values, inside is None) != targets:
         return False
     return is_just_zero_at(values, game.missing(targets) if inside is None else inside)
@@ -78,7 +78,7 @@ def is_balanced(game, evidence):
     values, strategy = evidence
     if not all(is_rational(value) for value in values) or not is_strategy(game.points, strategy):
         return False
-    targets = game.targets_of(strategy)
+    targets = game.taken_by(strategy)
     return all(value == game.value_at(index, targets, values) for index, value in enumerate(values))
 
 

@@ -1,7 +1,7 @@
 """Ledgers: a told chain that is edited, and facts about its chances that stand or have fallen."""
 
 from oddscall.chances import chance
-from oddscall.checks import check_graph, check_place
+from oddscall.checks import check_place
 from oddscall.errors import BadValue, TooLarge
 from oddscall.graphs import Graph
 from oddscall.parts import told_parts
@@ -17,7 +17,6 @@ class Ledger:
     """A graph, the facts that were recorded, and the moves that can be taken back."""
 
     def __init__(self, graph):
-        check_graph(graph)
         told_parts(graph)
         self.procedures = graph.procedures
         # Each fact is a tuple of a place, a way and a chance; those that stand have their numbers in the dict.

@@ -296,6 +296,12 @@ class DifferenceTest(unittest.TestCase):
         graph = Graph(procedures=((1, tuple(loop + [("exit", 0)])), (1, tuple(loop + [("exit", 0)]))))
         self.assertIsNone(first_difference(graph, (0, 0), (1, 7)))
 
+    def test_procedures_of_different_sizes(self):
+        line = tuple([("reward", (1, 1), index + 1) for index in range(15)] + [("exit", 0)])
+        graph = Graph(procedures=((1, line), (1, (("draw", (((1, 1), 0),)),))))
+        self.assertEqual(first_difference(graph, (0, 0), (1, 0)), (15, 0))
+        self.assertEqual(first_difference(graph, (1, 0), (0, 0)), (15, 0))
+
     def test_places_that_are_not_alike_may_have_the_same_masses(self):
         points = (("reward", (1, 1), 2), ("reward", (2, 1), 2), ("exit", 0))
         self.assertIsNone(first_difference(single(points), (0, 0), (0, 1)))

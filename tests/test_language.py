@@ -170,6 +170,29 @@ class LanguageTest(unittest.TestCase):
                 if isinstance(node, ast.Call) and isinstance(node.func, ast.Name) and node.func.id not in BUILTINS:
                     self.assertFalse(any([self.is_lazy(argument) for argument in node.args]), (name, node.lineno))
 
+    def test_stars_in_calls(self):
+        for name, _, tree in files():
+            for node in ast.walk(tree):
+                if isinstance(node, ast.Call):
+                    stars = [argument.value for argument in node.args if isinstance(argument, ast.Starred)]
+                    self.assertTrue(all([isinstance(value, (ast.Name, ast.Attribute)) for value in stars]), (name, node.lineno))
+
+    def test_loops_do_not_change_what_they_go_over(self):
+        changing = {"append", "pop", "extend", "insert", "remove", "clear", "setdefault", "update", "add", "discard", "sort", "reverse"}
+        for name, _, tree in files():
+            for loop in [node for node in ast.walk(tree) if isinstance(node, ast.For)]:
+                names = {node.id for node in ast.walk(loop.iter) if isinstance(node, ast.Name)}
+                for node in ast.walk(ast.Module(loop.body, [])):
+                    changed = None
+                    if isinstance(node, ast.Call) and isinstance(node.func, ast.Attribute) and node.func.attr in changing:
+                        changed = node.func.value
+                    elif isinstance(node, ast.Subscript) and not isinstance(node.ctx, ast.Load):
+                        changed = node.value
+                    while isinstance(changed, ast.Subscript):
+                        changed = changed.value
+                    if isinstance(changed, ast.Name):
+                        self.assertNotIn(changed.id, names, (name, node.lineno))
+
     def is_lazy(self, node):
         if not isinstance(node, ast.Call):
             return False
